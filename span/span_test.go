@@ -81,6 +81,14 @@ func TestCheck(t *testing.T) {
 	}
 }
 
+func TestAlone(t *testing.T) {
+	for _, n := range []int{math.MinInt, -most - 1, -most, -1, 0, 1, 1000, most, most + 1, math.MaxInt} {
+		if got := span.Alone(n); got != spanOf([2]int{n, n}) {
+			t.Errorf("Alone(%d) = %v", n, got)
+		}
+	}
+}
+
 func TestAdd(t *testing.T) {
 	checkRows(t, "Add", span.Add, []row{
 		{[2]int{1, 3}, [2]int{10, 20}, [2]int{11, 23}, api.OK},
