@@ -97,6 +97,17 @@ func checkCheck(t *testing.T, p []int, told api.Errno) {
 	}
 }
 
+func checkCheckOver(t *testing.T, p []int, x api.Span, told api.Errno) {
+	t.Helper()
+	list, unchanged := handed(p)
+	if err := poly.CheckOver(list, x); plain.Told(err) != told {
+		t.Errorf("CheckOver(%v, %v) = %v; want %v", p, x, err, told)
+	}
+	if !unchanged() {
+		t.Errorf("CheckOver(%v, %v) changed what it was handed", p, x)
+	}
+}
+
 func checkOver(t *testing.T, name string, call overSpan, p []int, x, want api.Span, told api.Errno) {
 	t.Helper()
 	list, unchanged := handed(p)
@@ -532,6 +543,7 @@ func toldOf(ok bool) api.Errno {
 func checkMeant(t *testing.T, p []int, x api.Span) {
 	t.Helper()
 	checkMeantAlone(t, p)
+	checkCheckOver(t, p, x, meantWrongOver(p, x))
 	if told := meantWrongOver(p, x); told != api.OK {
 		checkHorner(t, p, x, api.Span{}, told)
 		checkPowers(t, p, x, api.Span{}, told)
