@@ -89,6 +89,44 @@ func TestAlone(t *testing.T) {
 	}
 }
 
+func TestHas(t *testing.T) {
+	for _, c := range []struct {
+		lo, hi, n int
+		has       bool
+	}{
+		{-1, 1, 0, true},
+		{0, 1, 0, true},
+		{-1, 0, 0, true},
+		{0, 0, 0, true},
+		{1, 2, 0, false},
+		{-2, -1, 0, false},
+		{5, 9, 4, false},
+		{5, 9, 5, true},
+		{5, 9, 9, true},
+		{5, 9, 10, false},
+		{-9, -5, -10, false},
+		{-9, -5, -9, true},
+		{-9, -5, -5, true},
+		{-9, -5, -4, false},
+		{-most, most, -most, true},
+		{-most, most, most, true},
+		{-most, most, most + 1, false},
+		{-most, most, -most - 1, false},
+		{-most, most, math.MinInt, false},
+		{-most, most, math.MaxInt, false},
+		// The wrong way round nothing is between the ends.
+		{1, -1, 0, false},
+		{1, 0, 0, false},
+		{1, 0, 1, false},
+		{math.MaxInt, math.MinInt, 0, false},
+		{math.MinInt, math.MaxInt, 0, true},
+	} {
+		if got := span.Has(api.Span{Lo: c.lo, Hi: c.hi}, c.n); got != c.has {
+			t.Errorf("Has(%d to %d, %d) = %v", c.lo, c.hi, c.n, got)
+		}
+	}
+}
+
 func TestAdd(t *testing.T) {
 	checkRows(t, "Add", span.Add, []row{
 		{[2]int{1, 3}, [2]int{10, 20}, [2]int{11, 23}, api.OK},
