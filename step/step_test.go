@@ -132,6 +132,18 @@ func checkCheck(t *testing.T, s api.System, told api.Errno) {
 	}
 }
 
+func checkCheckOver(t *testing.T, s api.System, b []api.Span, told api.Errno) {
+	t.Helper()
+	list, listSame := handedSystem(s)
+	over, overSame := handedBox(b)
+	if err := step.CheckOver(list, over); plain.Told(err) != told {
+		t.Errorf("CheckOver(%v, %v) = %v; want %v", s, b, err, told)
+	}
+	if !listSame() || !overSame() {
+		t.Errorf("CheckOver(%v, %v) changed what it was handed", s, b)
+	}
+}
+
 func checkOf(t *testing.T, s api.System, b, want []api.Span, told api.Errno) {
 	t.Helper()
 	list, listSame := handedSystem(s)
@@ -339,6 +351,8 @@ type boxed struct {
 func checkBoxes(t *testing.T, list []boxed) {
 	t.Helper()
 	for _, c := range list {
+		// All that these tables tell is told of Of itself, so system and box go together.
+		checkCheckOver(t, c.s.system(), c.b.box(), api.OK)
 		checkOf(t, c.s.system(), c.b.box(), c.want.box(), c.told)
 	}
 }
@@ -434,14 +448,17 @@ func TestOfWrong(t *testing.T) {
 	for _, w := range wrongSystems {
 		for _, g := range goodBoxes {
 			checkOf(t, w.s.system(), g.box(), nil, w.told)
+			checkCheckOver(t, w.s.system(), g.box(), w.told)
 		}
 		for _, v := range wrongBoxes {
 			checkOf(t, w.s.system(), v.b.box(), nil, w.told)
+			checkCheckOver(t, w.s.system(), v.b.box(), w.told)
 		}
 	}
 	for _, g := range goodSystems {
 		for _, w := range wrongBoxes {
 			checkOf(t, g.system(), w.b.box(), nil, w.told)
+			checkCheckOver(t, g.system(), w.b.box(), w.told)
 		}
 	}
 }
@@ -452,6 +469,7 @@ func TestOfShape(t *testing.T) {
 		for _, b := range append(goodBoxes, sides{{most, most}}, sides{{most, most}, {most, most}}, sides{{most, most}, {most, most}, {most, most}}) {
 			if len(b) != len(g.next) {
 				checkOf(t, g.system(), b.box(), nil, api.ErrShape)
+				checkCheckOver(t, g.system(), b.box(), api.ErrShape)
 			}
 		}
 	}
@@ -722,22 +740,30 @@ func meantWrong(s api.System) api.Errno {
 	return meantWrongSpans(s.Push)
 }
 
-// meantOf is what it says of Of.
-func meantOf(s api.System, b []api.Span) ([]api.Span, api.Errno) {
+// meantWrongOver is what it says is wrong with a system, or else with a box for it.
+func meantWrongOver(s api.System, b []api.Span) api.Errno {
 	if told := meantWrong(s); told != api.OK {
-		return nil, told
+		return told
 	}
 	switch {
 	case len(b) == 0:
-		return nil, api.ErrNone
+		return api.ErrNone
 	case len(b) >= 4:
-		return nil, api.ErrFull
+		return api.ErrFull
 	}
 	if told := meantWrongSpans(b); told != api.OK {
-		return nil, told
+		return told
 	}
 	if len(b) != len(s.Next) {
-		return nil, api.ErrShape
+		return api.ErrShape
+	}
+	return api.OK
+}
+
+// meantOf is what it says of Of.
+func meantOf(s api.System, b []api.Span) ([]api.Span, api.Errno) {
+	if told := meantWrongOver(s, b); told != api.OK {
+		return nil, told
 	}
 	var next []api.Span
 	for i, f := range s.Next {
@@ -806,9 +832,10 @@ func meantPoint(s api.System, x, push []int) ([]int, api.Errno) {
 	return next, api.OK
 }
 
-// checkMeantOf holds Of against what is meant.
+// checkMeantOf holds CheckOver and Of against what is meant.
 func checkMeantOf(t *testing.T, s api.System, b []api.Span) {
 	t.Helper()
+	checkCheckOver(t, s, b, meantWrongOver(s, b))
 	next, told := meantOf(s, b)
 	checkOf(t, s, b, next, told)
 }
