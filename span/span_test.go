@@ -3,6 +3,7 @@ package span_test
 import (
 	"math"
 	"math/big"
+	"slices"
 	"testing"
 
 	"spanmeadow/api"
@@ -78,6 +79,44 @@ func TestCheck(t *testing.T) {
 		if plain.Told(err) != c.told {
 			t.Errorf("Check(%d, %d) = %v; want %v", c.lo, c.hi, err, c.told)
 		}
+	}
+}
+
+// TestCheckAll asks of none, of one, of several, and of as many as one likes; a list that is handed in stays as it is.
+func TestCheckAll(t *testing.T) {
+	right, beyond, shape := spanOf([2]int{-most, most}), spanOf([2]int{most + 1, 0}), spanOf([2]int{1, 0})
+	many := slices.Repeat([]api.Span{right}, 1000)
+	for _, c := range []struct {
+		spans []api.Span
+		told  api.Errno
+	}{
+		{nil, api.OK},
+		{[]api.Span{}, api.OK},
+		{[]api.Span{right}, api.OK},
+		{[]api.Span{beyond}, api.ErrRange},
+		{[]api.Span{shape}, api.ErrShape},
+		{[]api.Span{right, right, right}, api.OK},
+		{[]api.Span{shape, right, right}, api.ErrShape},
+		{[]api.Span{right, beyond, right}, api.ErrRange},
+		{[]api.Span{right, right, shape}, api.ErrShape},
+		// The first that has a fault is told.
+		{[]api.Span{right, shape, beyond}, api.ErrShape},
+		{[]api.Span{right, beyond, shape}, api.ErrRange},
+		{[]api.Span{shape, right, beyond}, api.ErrShape},
+		{many, api.OK},
+		{append(slices.Clone(many), beyond), api.ErrRange},
+		{append(slices.Clone(many), right, shape, beyond), api.ErrShape},
+		// What lies behind the length is not asked.
+		{[]api.Span{right, beyond}[:1], api.OK},
+	} {
+		before := slices.Clone(c.spans)
+		err := span.CheckAll(c.spans...)
+		if plain.Told(err) != c.told || !slices.Equal(c.spans, before) {
+			t.Errorf("CheckAll of %d spans = %v; want %v", len(c.spans), err, c.told)
+		}
+	}
+	if err := span.CheckAll(right, shape, beyond); plain.Told(err) != api.ErrShape {
+		t.Errorf("CheckAll of three = %v", err)
 	}
 }
 
